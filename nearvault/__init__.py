@@ -1,0 +1,1 @@
+"""Nearvault: a store of points with transactions."""
