@@ -2,6 +2,8 @@
 
 METRICS = ("sum", "greatest", "unlike")
 
+# The width of each number in pages and in the log that has no width of its own.
+NUMBER_WIDTH = 4
 COORDINATE_WIDTH = 2
 COORDINATE_SHIFT = 32768
 

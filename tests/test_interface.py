@@ -12,6 +12,10 @@ FUNCTIONS = {
         "write_point": ["point"],
         "read_point": ["data", "place", "dimensions"],
     },
+    "nearvault.log": {
+        "write_group": ["pairs"],
+        "read_groups": ["data"],
+    },
 }
 
 METHODS = {
@@ -29,6 +33,30 @@ METHODS = {
             "crash": ["fates", "kept"],
             "steps": [],
             "pending": [],
+        },
+    },
+    "nearvault.pager": {
+        "Pager": {
+            "__init__": ["device"],
+            "read": ["number"],
+            "write": ["number", "data"],
+            "allocate": [],
+            "release": ["number"],
+            "field": ["k"],
+            "set_field": ["k", "number"],
+            "commit": [],
+            "checkpoint": [],
+            "rollback": [],
+        },
+    },
+    "nearvault.keytree": {
+        "KeyTree": {
+            "__init__": ["pager", "root", "dimensions"],
+            "insert": ["entry"],
+            "replace": ["key", "begin", "end"],
+            "delete": ["key", "begin"],
+            "entries": ["low", "high"],
+            "pages": [],
         },
     },
 }

@@ -1,0 +1,253 @@
+"""The key tree: entries in the order of their keys and begins, in pages."""
+
+from nearvault.device import PAGE_SIZE
+from nearvault.pager import padded
+from nearvault.points import COORDINATE_WIDTH, NUMBER_WIDTH, read_number, read_point, write_number, write_point
+
+LEAF = 1
+INNER = 2
+
+# A page begins with its kind and the number of its items, a byte each.
+PAGE_START = 2
+MOST_CHILDREN = 20
+
+# An entry begins with three numbers, and a child consists of three: its pair
+# and its page. So the items of both kinds of page have their pair in front.
+THREE_NUMBERS = 12
+CHILD_PAGE = 2
+
+
+def pair_of(item):
+    """Return the pair of an entry or of a child."""
+    return (item[0], item[1])
+
+
+def write_numbers(numbers):
+    """Return the bytes of several numbers."""
+    data = []
+    for number in numbers:
+        data.extend(write_number(NUMBER_WIDTH, number))
+    return data
+
+
+def read_three_numbers(data, place):
+    """Return the three numbers from a place on."""
+    places = range(place, place + THREE_NUMBERS, NUMBER_WIDTH)
+    return tuple([read_number(data, at, NUMBER_WIDTH) for at in places])
+
+
+def write_entry(entry):
+    """Return the bytes of an entry."""
+    key, begin, end, point, payload = entry
+    return write_numbers((key, begin, end)) + write_point(point) + [len(payload)] + list(payload)
+
+
+def read_entries(data, dimensions):
+    """Return the entries of a leaf; a page with only zeros has none."""
+    entries = []
+    place = PAGE_START
+    for _ in range(data[1]):
+        key, begin, end = read_three_numbers(data, place)
+        point = read_point(data, place + THREE_NUMBERS, dimensions)
+        payload_place = place + THREE_NUMBERS + COORDINATE_WIDTH * dimensions + 1
+        place = payload_place + data[payload_place - 1]
+        entries.append((key, begin, end, point, tuple(data[payload_place:place])))
+    return entries
+
+
+def read_children(data):
+    """Return the children of an inner page."""
+    places = [PAGE_START + THREE_NUMBERS * k for k in range(data[1])]
+    return [read_three_numbers(data, place) for place in places]
+
+
+def write_items(kind, items):
+    """Return the bytes of each item of a page."""
+    if kind == INNER:
+        return [write_numbers(child) for child in items]
+    return [write_entry(entry) for entry in items]
+
+
+def whole_page(kind, items):
+    """Return the 256 bytes of a page with these items."""
+    data = [kind, len(items)]
+    for item in write_items(kind, items):
+        data.extend(item)
+    return padded(data)
+
+
+def must_split(kind, items):
+    """Return whether a page must not have all of these items."""
+    if kind == INNER and len(items) > MOST_CHILDREN:
+        return True
+    return PAGE_START + sum([len(item) for item in write_items(kind, items)]) > PAGE_SIZE
+
+
+def first_part_length(kind, items):
+    """Return how many items the first part of a page that is split has."""
+    sizes = [len(item) for item in write_items(kind, items)]
+    # Within the bounds of the program the first item is always less than half.
+    many = 1
+    size = sizes[0]
+    while 2 * (size + sizes[many]) <= sum(sizes):
+        size += sizes[many]
+        many += 1
+    return many
+
+
+def child_for(children, pair):
+    """Return the child below which an entry with this pair belongs."""
+    chosen = children[0]
+    for child in children[1:]:
+        if pair_of(child) <= pair:
+            chosen = child
+    return chosen
+
+
+def children_between(children, low, high):
+    """Return the children below which keys from low to high may stand."""
+    found = []
+    for k, child in enumerate(children):
+        all_below_low = k + 1 < len(children) and pair_of(children[k + 1]) <= (low, 0)
+        all_above_high = k > 0 and child[0] > high
+        if not all_below_low and not all_above_high:
+            found.append(child)
+    return found
+
+
+def with_next_child(children, page, added):
+    """Return the children with another one behind the child with this page."""
+    # The pair of the first child may be greater than that of the added one,
+    # so the page tells the place, not the pair.
+    place = [child[CHILD_PAGE] for child in children].index(page) + 1
+    return children[:place] + [added] + children[place:]
+
+
+class KeyTree:
+    """The entries below a root page; all that the tree knows stands in pages."""
+
+    def __init__(self, pager, root, dimensions):
+        self._pager = pager
+        self._root = root
+        self._dimensions = dimensions
+
+    def insert(self, entry):
+        """Insert an entry that is not there."""
+        path = self._path(pair_of(entry))
+        page = path.pop()
+        kind = LEAF
+        items = sorted(self._entries_of(page) + [entry], key=pair_of)
+        while path and must_split(kind, items):
+            added = self._split(page, kind, items)
+            parent = path.pop()
+            items = with_next_child(self._children_of(parent), page, added)
+            page = parent
+            kind = INNER
+        if must_split(kind, items):
+            items = self._split_root(kind, items)
+            kind = INNER
+        self._write(page, kind, items)
+
+    def replace(self, key, begin, end):
+        """Change the end of an entry that is there."""
+        page = self._path((key, begin))[-1]
+        entries = self._entries_of(page)
+        place = [pair_of(entry) for entry in entries].index((key, begin))
+        entries[place] = (key, begin, end) + entries[place][3:]
+        self._write(page, LEAF, entries)
+
+    def delete(self, key, begin):
+        """Delete an entry that is there."""
+        path = self._path((key, begin))
+        page = path.pop()
+        kind = LEAF
+        items = [entry for entry in self._entries_of(page) if pair_of(entry) != (key, begin)]
+        while path and not items:
+            self._pager.release(page)
+            parent = path.pop()
+            items = [child for child in self._children_of(parent) if child[CHILD_PAGE] != page]
+            page = parent
+            kind = INNER
+        if not items:
+            kind = LEAF
+        self._write(page, kind, items)
+        self._take_over_only_children()
+
+    def entries(self, low, high):
+        """Return the entries with keys from low to high, in order."""
+        return self._entries_below(self._root, low, high)
+
+    def pages(self):
+        """Return the numbers of the tree's pages, depth first."""
+        return self._pages_from(self._root)
+
+    def _path(self, pair):
+        """Return the pages from the root to the leaf of an entry with this pair."""
+        path = [self._root]
+        data = self._pager.read(self._root)
+        while data[0] == INNER:
+            page = child_for(read_children(data), pair)[CHILD_PAGE]
+            path.append(page)
+            data = self._pager.read(page)
+        return path
+
+    def _entries_of(self, page):
+        """Return the entries of a leaf by its page."""
+        return read_entries(self._pager.read(page), self._dimensions)
+
+    def _children_of(self, page):
+        """Return the children of an inner page."""
+        return read_children(self._pager.read(page))
+
+    def _write(self, page, kind, items):
+        """Write these items to a page."""
+        self._pager.write(page, whole_page(kind, items))
+
+    def _write_to_new_page(self, kind, items):
+        """Write these items to a new page, and return it as a child."""
+        page = self._pager.allocate()
+        self._write(page, kind, items)
+        key, begin = pair_of(items[0])
+        return (key, begin, page)
+
+    def _split(self, page, kind, items):
+        """Leave the first part at its page, and return the second as a child."""
+        many = first_part_length(kind, items)
+        self._write(page, kind, items[:many])
+        return self._write_to_new_page(kind, items[many:])
+
+    def _split_root(self, kind, items):
+        """Return the two children of a root that is split."""
+        many = first_part_length(kind, items)
+        second = self._write_to_new_page(kind, items[many:])
+        first = self._write_to_new_page(kind, items[:many])
+        return [first, second]
+
+    def _take_over_only_children(self):
+        """Give an inner root with one child the content of that child."""
+        data = self._pager.read(self._root)
+        while data[0] == INNER and data[1] == 1:
+            page = read_children(data)[0][CHILD_PAGE]
+            data = self._pager.read(page)
+            self._pager.write(self._root, data)
+            self._pager.release(page)
+
+    def _entries_below(self, page, low, high):
+        """Return the entries of a range below a page and in it."""
+        data = self._pager.read(page)
+        if data[0] != INNER:
+            entries = read_entries(data, self._dimensions)
+            return [entry for entry in entries if low <= entry[0] <= high]
+        found = []
+        for child in children_between(read_children(data), low, high):
+            found.extend(self._entries_below(child[CHILD_PAGE], low, high))
+        return found
+
+    def _pages_from(self, page):
+        """Return the numbers of a page and of the pages below it."""
+        found = [page]
+        data = self._pager.read(page)
+        if data[0] == INNER:
+            for child in read_children(data):
+                found.extend(self._pages_from(child[CHILD_PAGE]))
+        return found
