@@ -59,8 +59,7 @@ class Device:
     def sync_log(self):
         """Make all pending log steps durable."""
         self._take_step()
-        self._durable_log = self.log()
-        self._log_steps = []
+        self._end_log_steps(self._log_steps)
 
     def page(self, number):
         """Return the content of a page after all pending page writes."""
@@ -82,8 +81,7 @@ class Device:
         for (number, data), fate in zip(self._page_writes, fates):
             self._end_page_write(number, data, fate)
         self._page_writes = []
-        self._durable_log = log_after(self._durable_log, self._log_steps[:max(kept, 0)])
-        self._log_steps = []
+        self._end_log_steps(self._log_steps[:max(kept, 0)])
         self._steps_allowed = None
 
     def steps(self):
@@ -115,3 +113,12 @@ class Device:
         elif fate == FIRST_HALF_TAKES_EFFECT:
             second_half = self._durable_page(number)[HALF_PAGE:]
             self._durable_pages[number] = data[:HALF_PAGE] + second_half
+
+    def _end_log_steps(self, log_steps):
+        """Let these of the pending log steps take effect, and lose the others."""
+        if None in log_steps:
+            self._durable_log = log_after(self._durable_log, log_steps)
+        else:
+            # Nothing but bytes: the log may be too long to be copied at each syncing.
+            self._durable_log.extend(log_steps)
+        self._log_steps = []

@@ -1,20 +1,18 @@
 """The key tree: entries in the order of their keys and begins, in pages."""
 
 from nearvault.device import PAGE_SIZE
-from nearvault.pager import padded
+from nearvault.pagetree import CHILD_PAGE, PAGE_START, PageTree, page_with
 from nearvault.points import COORDINATE_WIDTH, NUMBER_WIDTH, read_number, read_point, write_number, write_point
 
 LEAF = 1
 INNER = 2
 
-# A page begins with its kind and the number of its items, a byte each.
-PAGE_START = 2
 MOST_CHILDREN = 20
+MOST_PAYLOAD = 40
 
 # An entry begins with three numbers, and a child consists of three: its pair
 # and its page. So the items of both kinds of page have their pair in front.
 THREE_NUMBERS = 12
-CHILD_PAGE = 2
 
 
 def pair_of(item):
@@ -68,14 +66,6 @@ def write_items(kind, items):
     return [write_entry(entry) for entry in items]
 
 
-def whole_page(kind, items):
-    """Return the 256 bytes of a page with these items."""
-    data = [kind, len(items)]
-    for item in write_items(kind, items):
-        data.extend(item)
-    return padded(data)
-
-
 def must_split(kind, items):
     """Return whether a page must not have all of these items."""
     if kind == INNER and len(items) > MOST_CHILDREN:
@@ -123,13 +113,11 @@ def with_next_child(children, page, added):
     return children[:place] + [added] + children[place:]
 
 
-class KeyTree:
-    """The entries below a root page; all that the tree knows stands in pages."""
+class KeyTree(PageTree):
+    """The entries below a root page."""
 
     def __init__(self, pager, root, dimensions):
-        self._pager = pager
-        self._root = root
-        self._dimensions = dimensions
+        PageTree.__init__(self, pager, root, dimensions, LEAF, INNER)
 
     def insert(self, entry):
         """Insert an entry that is not there."""
@@ -159,19 +147,8 @@ class KeyTree:
     def delete(self, key, begin):
         """Delete an entry that is there."""
         path = self._path((key, begin))
-        page = path.pop()
-        kind = LEAF
-        items = [entry for entry in self._entries_of(page) if pair_of(entry) != (key, begin)]
-        while path and not items:
-            self._pager.release(page)
-            parent = path.pop()
-            items = [child for child in self._children_of(parent) if child[CHILD_PAGE] != page]
-            page = parent
-            kind = INNER
-        if not items:
-            kind = LEAF
-        self._write(page, kind, items)
-        self._take_over_only_children()
+        entries = self._entries_of(path[-1])
+        self._write_left_items(path, [entry for entry in entries if pair_of(entry) != (key, begin)])
 
     def entries(self, low, high):
         """Return the entries with keys from low to high, in order."""
@@ -179,16 +156,15 @@ class KeyTree:
 
     def pages(self):
         """Return the numbers of the tree's pages, depth first."""
-        return self._pages_from(self._root)
+        return self._pages_from_root()
 
     def _path(self, pair):
         """Return the pages from the root to the leaf of an entry with this pair."""
         path = [self._root]
-        data = self._pager.read(self._root)
-        while data[0] == INNER:
-            page = child_for(read_children(data), pair)[CHILD_PAGE]
-            path.append(page)
-            data = self._pager.read(page)
+        children = self._children_of(self._root)
+        while children:
+            path.append(child_for(children, pair)[CHILD_PAGE])
+            children = self._children_of(path[-1])
         return path
 
     def _entries_of(self, page):
@@ -196,12 +172,15 @@ class KeyTree:
         return read_entries(self._pager.read(page), self._dimensions)
 
     def _children_of(self, page):
-        """Return the children of an inner page."""
-        return read_children(self._pager.read(page))
+        """Return the children of a page; a leaf has none."""
+        data = self._pager.read(page)
+        if data[0] != INNER:
+            return []
+        return read_children(data)
 
     def _write(self, page, kind, items):
         """Write these items to a page."""
-        self._pager.write(page, whole_page(kind, items))
+        self._pager.write(page, page_with(kind, write_items(kind, items)))
 
     def _write_to_new_page(self, kind, items):
         """Write these items to a new page, and return it as a child."""
@@ -223,15 +202,6 @@ class KeyTree:
         first = self._write_to_new_page(kind, items[:many])
         return [first, second]
 
-    def _take_over_only_children(self):
-        """Give an inner root with one child the content of that child."""
-        data = self._pager.read(self._root)
-        while data[0] == INNER and data[1] == 1:
-            page = read_children(data)[0][CHILD_PAGE]
-            data = self._pager.read(page)
-            self._pager.write(self._root, data)
-            self._pager.release(page)
-
     def _entries_below(self, page, low, high):
         """Return the entries of a range below a page and in it."""
         data = self._pager.read(page)
@@ -241,13 +211,4 @@ class KeyTree:
         found = []
         for child in children_between(read_children(data), low, high):
             found.extend(self._entries_below(child[CHILD_PAGE], low, high))
-        return found
-
-    def _pages_from(self, page):
-        """Return the numbers of a page and of the pages below it."""
-        found = [page]
-        data = self._pager.read(page)
-        if data[0] == INNER:
-            for child in read_children(data):
-                found.extend(self._pages_from(child[CHILD_PAGE]))
         return found

@@ -6,7 +6,17 @@ from nearvault.points import NUMBER_WIDTH, read_number, write_number
 
 HEAD = 0
 
-# The pager itself needs these two of the eight numbers of the head.
+# The format number of a store; an empty device has another one.
+FORMAT_NUMBER = 1
+EMPTY_DEVICE = 0
+
+# The eight numbers of the head, in their order.
+FORMAT = 0
+DIMENSIONS = 1
+METRIC = 2
+LAST_COMMIT = 3
+KEY_ROOT = 4
+METRIC_ROOT = 5
 PAGE_COUNT = 6
 FIRST_FREE = 7
 

@@ -16,6 +16,9 @@ FUNCTIONS = {
         "write_group": ["pairs"],
         "read_groups": ["data"],
     },
+    "nearvault.checker": {
+        "check_pages": ["pager"],
+    },
 }
 
 METHODS = {
@@ -57,6 +60,42 @@ METHODS = {
             "delete": ["key", "begin"],
             "entries": ["low", "high"],
             "pages": [],
+        },
+    },
+    "nearvault.metrictree": {
+        "MetricTree": {
+            "__init__": ["pager", "root", "dimensions", "metric"],
+            "insert": ["item"],
+            "delete": ["item"],
+            "nearest": ["point", "count", "accepts"],
+            "all_items": [],
+            "pages": [],
+        },
+    },
+    "nearvault.store": {
+        "Store": {
+            "__init__": ["device", "dimensions", "metric"],
+            "begin": [],
+            "snapshot": ["transaction"],
+            "put": ["transaction", "key", "point", "payload"],
+            "delete": ["transaction", "key"],
+            "abort": ["transaction"],
+            "get": ["transaction", "key"],
+            "between": ["transaction", "low", "high"],
+            "nearest": ["transaction", "point", "count", "low", "high"],
+            "commit": ["transaction"],
+            "vacuum": [],
+            "checkpoint": [],
+            "last_commit": [],
+            "versions": [],
+        },
+    },
+    "nearvault.server": {
+        "Server": {
+            "__init__": ["store"],
+            "start": [],
+            "receive": ["session", "data"],
+            "end": ["session"],
         },
     },
 }
