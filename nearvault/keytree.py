@@ -139,9 +139,12 @@ class KeyTree(PageTree):
     def replace(self, key, begin, end):
         """Change the end of an entry that is there."""
         page = self._path((key, begin))[-1]
-        entries = self._entries_of(page)
-        place = [pair_of(entry) for entry in entries].index((key, begin))
-        entries[place] = (key, begin, end) + entries[place][3:]
+        entries = []
+        for entry in self._entries_of(page):
+            if pair_of(entry) == (key, begin):
+                entries.append((key, begin, end) + entry[3:])
+            else:
+                entries.append(entry)
         self._write(page, LEAF, entries)
 
     def delete(self, key, begin):

@@ -167,10 +167,10 @@ class Server:
 
     def end(self, session):
         """End a session and abort its transaction."""
-        if self._transactions[session] is not None:
-            self._store.abort(self._transactions[session])
-        del self._waiting[session]
-        del self._transactions[session]
+        transaction = self._transactions.pop(session, None)
+        if transaction is not None:
+            self._store.abort(transaction)
+        self._waiting.pop(session, None)
 
     def _answer(self, session, body):
         """Return the body of the response to a request."""

@@ -92,14 +92,17 @@ class Store:
         changes = self._changes[transaction]
 
         def accepts(key, begin):
-            return low <= key <= high and key not in changes and sees(snapshot, self._version(key, begin))
+            if key in changes or not low <= key <= high:
+                return False
+            return any([sees(snapshot, entry) for entry in self._versions_with(key, begin)])
 
         records = []
         for record in self._put_records(transaction, low, high):
             records.append((distance(self.metric, point, record[1]),) + record)
         for apart, key, begin, _ in self._metric_tree.nearest(point, count, accepts):
-            records.append((apart, key) + self._version(key, begin)[3:])
-        return sorted(records, key=lambda record: (record[0], record[1]))[:max(count, 0)]
+            for version in self._versions_with(key, begin):
+                records.append((apart, key) + version[3:])
+        return sorted(records, key=lambda row: (row[0], row[1]))[:max(count, 0)]
 
     def commit(self, transaction):
         """Let the changes of a transaction take effect, and return the last commit number."""
@@ -159,9 +162,9 @@ class Store:
         records = list(self._changes[transaction].values())
         return [record for record in records if record is not None and low <= record[0] <= high]
 
-    def _version(self, key, begin):
-        """Return the version with this key and begin, which is there."""
-        return [entry for entry in self._key_tree.entries(key, key) if entry[1] == begin][0]
+    def _versions_with(self, key, begin):
+        """Return a list of the only version with this key and begin."""
+        return [version for version in self._key_tree.entries(key, key) if version[1] == begin]
 
     def _make_versions(self, key, record):
         """End the version of a changed key, if any, and begin one if a record was put."""

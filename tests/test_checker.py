@@ -122,31 +122,18 @@ class RightTest(CheckerTest):
 
     def test_metric_pages_of_each_length(self):
         for dimensions in (1, 8):
+            point = (5,) * dimensions
             for many in range(1, 11):
-                point = (5,) * dimensions
-                pages = {0: page_of(1, dimensions, 1, 1, 1, 2, 4 + many, 0)}
-                half = [(k, 1, 0, point, ()) for k in range(many)]
-                pages[1] = inner_of((0, 0, 3), (5, 1, 3 + many)) if many > 5 else leaf_of(*half)
-                if many > 5:
-                    pages[3] = leaf_of(*half[:5])
-                    pages[3 + many] = leaf_of(*half[5:])
-                    pages[0] = page_of(1, dimensions, 1, 1, 1, 2, 4 + 2 * many, 0)
-                    first = 4 + many
-                else:
-                    first = 4
-                    pages[0] = page_of(1, dimensions, 1, 1, 1, 2, 4 + many, 3)
-                pages.update({first + k: metric_leaf_of((k, 1, point)) for k in range(many)})
-                if many > 9:
-                    pages[2] = padded([4, many])
-                    self.assertEqual(self.result(pages), 4)
-                    continue
-                if many > 5:
-                    # The pages between the two leaves of the key tree are free.
-                    free = list(range(4, 3 + many))
-                    pages[0][28:32] = [0, 0, 0, free[0]]
-                    pages.update({page: page_of(page + 1) for page in free[:-1]})
-                pages[2] = metric_inner_of(*[(point, 0, first + k) for k in range(many)])
-                self.assertEqual(self.result(pages), 0, (dimensions, many))
+                # Each leaf of both trees has one item.
+                children = [(point, 0, 3 + many + k) for k in range(many)]
+                pages = {
+                    0: page_of(1, dimensions, 1, 1, 1, 2, 3 + 2 * many, 0),
+                    1: inner_of(*[(k, 1, 3 + k) for k in range(many)]),
+                    2: metric_inner_of(*children) if many < 10 else [4, 10] + metric_inner_of(*children[:9])[2:],
+                }
+                pages.update({3 + k: leaf_of((k, 1, 0, point, ())) for k in range(many)})
+                pages.update({3 + many + k: metric_leaf_of((k, 1, point)) for k in range(many)})
+                self.assertEqual(self.result(pages), 0 if many < 10 else 4, (dimensions, many))
 
     def test_deep_trees(self):
         # Trees that are deeper than calls may be nested.
@@ -279,6 +266,17 @@ class KeyTreePagesTest(CheckerTest):
         content = [1, 5] + page[2:222] + [0, 0, 0, 50, 0, 0, 0, 1, 0, 0, 0, 0, 128, 0, 19] + [1] * 19
         # With 19 bytes it ends where the page does; only the items are missing then.
         self.check(6, {5: content})
+
+    def test_entries_that_fill_the_page_to_its_last_byte(self):
+        for lengths in ((40, 40, 40, 22, 22, 0), (0, 40, 40, 40, 22, 22)):
+            entries = [(key, 1, 0, (0,), (5,) * length) for key, length in enumerate(lengths)]
+            self.assertEqual(2 + sum(15 + length for length in lengths), 256)
+            pages = {0: page_of(1, 1, 0, 9, 1, 2, 3, 0), 1: leaf_of(*entries)}
+            pages[2] = metric_leaf_of(*[(key, 1, (0,)) for key in range(6)])
+            self.assertEqual(self.result(pages), 0)
+            # A seventh one has no place any more.
+            pages[1] = [1, 7] + pages[1][2:]
+            self.assertEqual(self.result(pages), 2)
 
     def test_the_order_of_pairs(self):
         first, second, third = KEY_CHILDREN
@@ -481,8 +479,8 @@ class VersionsTest(CheckerTest):
     def test_an_end(self):
         for end, expected in ((0, 0), (1, 7), (3, 7), (4, 7), (5, 0), (9, 0), (10, 7), (GREATEST, 7)):
             self.check_versions(expected, (5, 4, end))
-        for end in (1, 4, 10, GREATEST):
-            self.check_entries(7, 3, with_item(ENTRIES[3], 2, (10, 3, end if end != 4 else 3, (6,), (7, 8))))
+        for end in (1, 3, 10, GREATEST):
+            self.check_entries(7, 3, with_item(ENTRIES[3], 2, (10, 3, end, (6,), (7, 8))))
 
     def test_two_entries_with_the_same_key(self):
         for end, expected in ((0, 7), (3, 0), (4, 0), (5, 0), (6, 7), (9, 7)):
@@ -526,6 +524,9 @@ class FreePagesTest(CheckerTest):
         self.check_head(8, 7, 0)
         self.check(8, {10: page_of(12)})
         self.check(0, {0: page_of(*HEAD[:6], 13, 9), 10: page_of(12)})
+        # As many pages as there should be, but not the right ones.
+        for page in (12, 13, 77, GREATEST):
+            self.check(8, {11: page_of(page)})
 
     def test_free_pages_in_any_order(self):
         self.check(0, {0: page_of(*HEAD[:7], 10), 10: page_of(9), 9: page_of(11), 11: ZEROS})

@@ -171,7 +171,7 @@ class RandomTest(unittest.TestCase):
 
     def changed_byte(self, chance, content):
         """Return a page with another byte, more often one of the first ones."""
-        place = chance.choice((chance.randrange(256), chance.randrange(36), chance.randrange(4), 4 * chance.randrange(8) + 3))
+        place = chance.choice((chance.randrange(256), chance.randrange(36), chance.randrange(4)))
         byte = chance.choice((0, 1, 255, content[place] + 1, content[place] - 1, chance.randrange(256)))
         return content[:place] + [byte % 256] + content[place + 1:]
 

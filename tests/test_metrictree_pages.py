@@ -519,6 +519,18 @@ class DeleteTest(PagesTest):
                 self.assertEqual(self.tree.all_items(), [keyed(key, place) for key, place in sorted(places.items())])
             self.check_pages({1: metric_leaf_of()})
 
+    def test_children_are_visited_in_order_until_the_item_is_found(self):
+        # The same item stands in several leaves, out of reach in the first one.
+        self.begin(1, "sum", 6)
+        self.write({
+            1: metric_inner_of(((0,), 4, 2), ((9,), 4, 3), ((1,), 4, 4), ((5,), 0, 5)),
+            **{page: metric_leaf_of(keyed(page, 3), keyed(1, 5)) for page in (2, 3, 4, 5)},
+        })
+        for page in (3, 4, 5):
+            self.delete(keyed(1, 5))
+            self.assertEqual(self.commit(), [page])
+            self.check_pages({page: metric_leaf_of(keyed(page, 3))})
+
     def test_a_released_page_is_used_again(self):
         self.fill(at(0, 10, 20, 30, 40, 50, 60, 70, 80, 90))
         self.delete(*at(0, 10, 20, 30, 40))

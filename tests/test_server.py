@@ -184,7 +184,8 @@ class RequestTest(ServerTest):
             self.check((BEGIN, done(0)), *[(put(*row), [0]) for row in rows])
             self.check((between(), [0] + written(*rows)), (get(6), [0] + written(rows[1])))
             self.check((nearest((32767,) * dimensions, 1), done(0) + written(rows[1])))
-            self.check((nearest((-32768,) * dimensions, 9, 6), done(0) + written(rows[2]) + numbers(65535) + written(rows[1])))
+            response = done(0) + written(rows[2]) + numbers(65535) + written(rows[1])
+            self.check((nearest((-32768,) * dimensions, 9, 6), response))
             # With a coordinate more or less it is another request, or none.
             for other in (point[:-1], point + (0,)):
                 self.check((nearest(other, 1), [1]))
@@ -192,7 +193,8 @@ class RequestTest(ServerTest):
     def test_a_payload_of_each_length(self):
         self.check((BEGIN, done(0)))
         for many in range(41):
-            self.check((put(many, (1, 2), (many,) * many), [0]), (get(many), [0] + written((many, (1, 2), (many,) * many))))
+            record = (many, (1, 2), (many,) * many)
+            self.check((put(*record), [0]), (get(many), [0] + written(record)))
 
 
 class MalformedTest(ServerTest):
@@ -271,12 +273,13 @@ class ErrorsTest(ServerTest):
             self.check((body, [1]))
         self.check((BEGIN, done(0)), (BEGIN + [0], [1]), (BEGIN, [3]), (ABORT, [0]), (COMMIT, [2]))
         # Without a transaction a range of too many records is not asked for.
-        self.commit_long(8)
+        self.commit_long()
         self.check((between(), [2]), (BEGIN, done(1)), (between(), [5]), (between() + [1], [1]))
 
-    def commit_long(self, many_bytes_too_many):
+    def commit_long(self):
+        """Commit records that have one byte too many for a response."""
         transaction = self.store.begin()
-        for record in records_of_length(65534 + many_bytes_too_many, 2):
+        for record in records_of_length(65535, 2):
             self.store.put(transaction, *record)
         self.store.commit(transaction)
 
@@ -360,8 +363,8 @@ class LongResponseTest(ServerTest):
 
 class FramesTest(ServerTest):
     BODIES = [
-        BEGIN, put(*A), [], put(*C), get(1), [99], nearest((0, 0), 9), between(), COMMIT, COMMIT, BEGIN, delete(1), COMMIT,
-        VACUUM, CHECKPOINT, BEGIN, between(), ABORT,
+        BEGIN, put(*A), [], put(*C), get(1), [99], nearest((0, 0), 9), between(), COMMIT, COMMIT,
+        BEGIN, delete(1), COMMIT, VACUUM, CHECKPOINT, BEGIN, between(), ABORT,
     ]
 
     def setUp(self):
@@ -447,6 +450,7 @@ class SessionsTest(ServerTest):
         self.assertEqual(self.session, 1)
         self.assertEqual([self.server.start() for _ in range(3)], [2, 3, 4])
         self.assertIsNone(self.server.end(4))
+        self.assertIsNone(self.server.end(2))
         self.assertIsNone(self.server.end(2))
         self.assertEqual(self.server.start(), 5)
         self.assertEqual(Server(self.store).start(), 1)

@@ -5,6 +5,7 @@ import unittest
 
 from nearvault.device import Device
 from nearvault.errors import Conflict, NoTransaction
+from nearvault.store import Store
 from support import CheckedStore, RecordingDevice
 
 GREATEST = 2**32 - 1
@@ -503,6 +504,58 @@ class HandedOutTest(StoreTest):
             self.assertIs(type(row), tuple)
             self.assertIs(type(row[-1]), tuple)
             self.assertIs(type(row[-2]), tuple)
+
+
+class BeyondTest(unittest.TestCase):
+    """What goes somewhat beyond the limits raises no error."""
+
+    def run_turns(self, dimensions, metric, keys, places, lengths):
+        store = Store(Device(), dimensions, metric)
+        for turn in range(30):
+            transaction = store.begin()
+            for k in range(turn, turn + 7):
+                point = tuple(places[(k * 3 + j) % len(places)] for j in range(dimensions))
+                store.put(transaction, keys[k % len(keys)], point, (k,) * lengths[k % len(lengths)])
+            store.delete(transaction, keys[turn * 5 % len(keys)])
+            store.get(transaction, keys[0])
+            store.between(transaction, -1, 2**33)
+            store.nearest(transaction, point, 500, -1, 2**33)
+            self.assertEqual(store.commit(transaction), turn + 1)
+            store.nearest(store.begin(), point, 500, -1, 2**33)
+            if turn % 4 == 0:
+                store.vacuum()
+
+    def test_keys(self):
+        for keys in (range(2**32 - 3, 2**32 + 9), range(-9, 9)):
+            self.run_turns(2, "sum", keys, (0, 1, 5), (0, 7))
+
+    def test_coordinates(self):
+        for metric in ("sum", "greatest", "unlike"):
+            self.run_turns(2, metric, range(20), (32766, 32767, 32768, 32790, -32768, -32769, -32780), (0, 7))
+
+    def test_payloads(self):
+        for dimensions in (1, 8):
+            self.run_turns(dimensions, "sum", range(20), (0, 1, 5), (0, 40, 41, 50))
+
+    def test_dimensions(self):
+        self.run_turns(9, "greatest", range(20), (0, 1, 5), (0, 40))
+
+    def test_a_payload_of_41_bytes_is_kept(self):
+        store = Store(Device(), 2, "sum")
+        transaction = store.begin()
+        store.put(transaction, 1, (0, 0), tuple(range(41)))
+        store.commit(transaction)
+        self.assertEqual(store.get(store.begin(), 1), (1, (0, 0), tuple(range(41))))
+
+    def test_a_count_of_0(self):
+        store = Store(Device(), 2, "sum")
+        transaction = store.begin()
+        store.put(transaction, 1, (0, 0), ())
+        store.commit(transaction)
+        transaction = store.begin()
+        store.put(transaction, 2, (0, 0), ())
+        for count in (0, -1):
+            self.assertEqual(store.nearest(transaction, (0, 0), count, 0, 9), [])
 
 
 class PowerlessTest(StoreTest):

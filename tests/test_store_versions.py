@@ -6,10 +6,8 @@ from nearvault.device import Device
 from nearvault.errors import Conflict
 from nearvault.log import read_groups
 from nearvault.store import Store
-from support import (
-    ZEROS, CheckedStore, RecordingDevice, appended, group_of, inner_of, leaf_of, metric_inner_of, metric_leaf_of, opened,
-    page_of,
-)
+from support import ZEROS, CheckedStore, RecordingDevice, appended, group_of, opened, page_of
+from support import inner_of, leaf_of, metric_inner_of, metric_leaf_of
 
 GREATEST = 2**32 - 1
 
